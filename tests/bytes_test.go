@@ -261,6 +261,7 @@ func TestNumNotShortest(t *testing.T) {
 
 // Whatever is read is put again as the very bytes that it was read from.
 func TestBytesEvery(t *testing.T) {
+	t.Parallel()
 	for c := 0; c < 256*256; c++ {
 		b := []byte{byte(c), byte(c >> 8)}
 		for at := -1; at <= 3; at++ {

@@ -505,6 +505,7 @@ func TestDoBadDeed(t *testing.T) {
 
 // Each deed of the list at each of these worlds, against the model.
 func TestDoGrid(t *testing.T) {
+	t.Parallel()
 	codes := map[[2]int]int{}
 	worlds := append(someWorlds(), twoWorld(), mendWorld(), plannedWorld(), readyWorld(), lostWorld(), fullWorld())
 	for _, w := range worlds {
@@ -624,6 +625,7 @@ func TestOpenDeedEndsMend(t *testing.T) {
 
 // Every mask of many configs, and what is none: just those whose nodes hold are taken, lost or not.
 func TestOpenDeedMasks(t *testing.T) {
+	t.Parallel()
 	for _, c := range slices.Concat(smallConfigs(), registerConfigs(), unheldConfigs()) {
 		w := emptyWorld(c)
 		for mask := range 1 << len(c.Domains) {
@@ -1800,6 +1802,7 @@ func deedConfigs() []impl.Config {
 
 // Rows of deeds from new worlds on, against the model, and the promise at each.
 func TestDoDrawnRows(t *testing.T) {
+	t.Parallel()
 	codes := map[[2]int]int{}
 	sure, closed, told := 0, 0, 0
 	for seed := range 60 {

@@ -442,6 +442,7 @@ func nearLine(drawn *rand.Rand, line string) string {
 
 // What DeedLine writes DeedParse reads as it was, and what DeedParse reads DeedLine writes as it was.
 func TestDeedLineDrawn(t *testing.T) {
+	t.Parallel()
 	drawn := rand.New(rand.NewSource(16))
 	written, read, bad := map[int]int{}, map[int]int{}, 0
 	for range 60000 {
@@ -728,6 +729,7 @@ func TestWorldLineCodes(t *testing.T) {
 
 // Each line at each of these worlds, against the model; what is not done leaves all as it was.
 func TestWorldLineGrid(t *testing.T) {
+	t.Parallel()
 	said := map[string]int{}
 	for _, w := range slices.Concat(deedWorlds(), someWorlds()[:20], []impl.World{faultyWorld(0), faultyWorld(31), leftWorld(t)}) {
 		lines := someLines()
@@ -954,6 +956,7 @@ func drawnLines(drawn *rand.Rand, c impl.Config, size int) []string {
 
 // A session tells what WorldLine tells, line by line.
 func TestSessionDrawn(t *testing.T) {
+	t.Parallel()
 	said := map[string]int{}
 	for seed := range 90 {
 		drawn := rand.New(rand.NewSource(int64(seed)))

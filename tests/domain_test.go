@@ -21,9 +21,9 @@ func conf(copies int, domains ...int) impl.Config {
 
 // nodesUpTo has the numbers of that many nodes.
 func nodesUpTo(size int) []int {
-	var list []int
-	for n := range size {
-		list = append(list, n)
+	list := make([]int, size)
+	for n := range list {
+		list[n] = n
 	}
 	return list
 }
@@ -54,7 +54,7 @@ func areNodes(c impl.Config, list []int) bool {
 		return false
 	}
 	for i, n := range list {
-		if !slices.Contains(nodesUpTo(len(c.Domains)), n) {
+		if n < 0 || n >= len(c.Domains) {
 			return false
 		}
 		for _, earlier := range list[:i] {
@@ -537,6 +537,7 @@ func checkCommon(t *testing.T, c impl.Config) {
 }
 
 func TestDomainCommon(t *testing.T) {
+	t.Parallel()
 	for _, c := range smallConfigs() {
 		checkCommon(t, c)
 	}
@@ -555,6 +556,7 @@ func TestDomainCommonOfChosen(t *testing.T) {
 }
 
 func TestDomainEverySmall(t *testing.T) {
+	t.Parallel()
 	for _, c := range smallConfigs() {
 		for setMask := range 1 << len(c.Domains) {
 			checkList(t, c, nodesOf(setMask))
@@ -567,6 +569,7 @@ func TestDomainEverySmall(t *testing.T) {
 
 // Every list of every one of the configs, against some sets of it.
 func TestDomainEveryList(t *testing.T) {
+	t.Parallel()
 	for _, c := range someConfigs() {
 		all := 1<<len(c.Domains) - 1
 		for listMask := range all + 1 {

@@ -588,6 +588,7 @@ func checkMerged(t *testing.T, list []impl.Store, got []impl.Entry) {
 }
 
 func TestUnionDrawn(t *testing.T) {
+	t.Parallel()
 	drawn := rand.New(rand.NewSource(11))
 	for range 6000 {
 		list := drawnStores(drawn, drawn.Intn(mostNodes+3))
@@ -912,6 +913,7 @@ func checkFilled(t *testing.T, f fillAsk, got impl.Store) {
 
 // Every list that may be lost, of many configs, and every node: whoever of lost is filled has the same.
 func TestFillEvery(t *testing.T) {
+	t.Parallel()
 	drawn := rand.New(rand.NewSource(13))
 	filled := 0
 	for _, c := range someConfigs() {
@@ -937,6 +939,7 @@ func TestFillEvery(t *testing.T) {
 
 // What those of lost have is drawn anew each time: the answer hangs on none of it, nor on who is filled.
 func TestFillWhoever(t *testing.T) {
+	t.Parallel()
 	drawn := rand.New(rand.NewSource(14))
 	bad := badStores()
 	for range 3000 {
@@ -983,6 +986,7 @@ func TestFillHeld(t *testing.T) {
 
 // One node behind the other loses all and is filled: what lay on nodes that hold is never lost.
 func TestFillRows(t *testing.T) {
+	t.Parallel()
 	for seed := range 60 {
 		drawn := rand.New(rand.NewSource(int64(seed)))
 		c := []impl.Config{conf(2, 0, 0, 1, 2), conf(4, 7, 6, 5, 4, 3, 2, 1, 0), conf(3, 0, 0, 1, 1, 2), conf(2, 0, 1)}[seed%4]

@@ -230,6 +230,7 @@ func TestHonestAddKnown(t *testing.T) {
 
 // Nodes of one domain are not enough, and nodes that are not of the epoch have no part in it.
 func TestHonestAddNodes(t *testing.T) {
+	t.Parallel()
 	for _, c := range slices.Concat(smallConfigs(), registerConfigs()) {
 		for mask := range 1 << len(c.Domains) {
 			nodes := nodesOf(mask)
@@ -1025,6 +1026,7 @@ func checkReadPromise(t *testing.T, w impl.World, reader int) (impl.World, int) 
 
 // In the midst of rows of deeds: what is honest keeps its promise, and those of deeds and judges.
 func TestHonestDrawnRows(t *testing.T) {
+	t.Parallel()
 	sure, told, closed := 0, 0, map[bool]int{}
 	for seed := range 60 {
 		drawn := rand.New(rand.NewSource(int64(seed)))

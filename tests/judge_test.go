@@ -252,6 +252,7 @@ func orderWorld(told ...impl.Event) impl.World {
 
 // Any two kinds, with Ats that ascend, are alike, and descend: only what is told of a place must ascend, and that alone.
 func TestJudgeOrderKinds(t *testing.T) {
+	t.Parallel()
 	ats := []int{math.MinInt, -1, 0, 1, 2, at(1, 1), at(1, 2), at(1, 60), at(1, 61), at(2, 1), at(31, 1), math.MaxInt}
 	isOfPlace := func(kind int) bool { return kind == 1 || kind == 2 || kind == 3 }
 	for _, first := range someKinds() {
@@ -455,6 +456,7 @@ func passes(where [2]int, epoch int, off int) bool {
 
 // Of one thing that was sent: sure or not, at, above and below what is given up, told or not by each of two readers, who are ahead of it, at it, or behind it.
 func TestJudgeKeptGrid(t *testing.T) {
+	t.Parallel()
 	for _, place := range [][2]int{{1, 1}, {1, 2}, {1, 59}, {1, 60}, {2, 1}, {2, 60}} {
 		x := at(place[0], place[1])
 		for _, trim := range []int{0, at(1, 1), x - 1, x, x + 1, at(1, 60), at(2, 1), at(2, 60)} {
@@ -541,6 +543,7 @@ func TestJudgeKeptEach(t *testing.T) {
 
 // A loss of either reader, wherever it stands, and whatever its place is.
 func TestJudgeWhole(t *testing.T) {
+	t.Parallel()
 	right := []impl.Event{toldData(1, "a"), toldData(2, "b")}
 	for _, kind := range someKinds() {
 		for _, place := range slices.Concat(notPlaces(), somePlaces()) {
@@ -589,6 +592,7 @@ func tales(place int) []struct {
 
 // Of one place: what each of two readers told of it, who are ahead of it, at it, or behind it; at, above and below what is given up.
 func TestJudgeSameGrid(t *testing.T) {
+	t.Parallel()
 	for _, place := range [][2]int{{1, 1}, {1, 59}, {2, 1}, {2, 59}} {
 		x := at(place[0], place[1])
 		for _, trim := range []int{0, at(1, 1), at(1, 59), at(1, 60), at(2, 1), at(2, 58), at(2, 59), at(2, 60)} {
@@ -656,6 +660,7 @@ func TestJudgeSameNoPlace(t *testing.T) {
 
 // Each place is asked: the first and the last of many, told by the one, by the other, or with other Data.
 func TestJudgeSameEach(t *testing.T) {
+	t.Parallel()
 	var told []impl.Event
 	var sent []impl.Sent
 	for i := range mostOut {
@@ -809,6 +814,7 @@ func drawnTale(drawn *rand.Rand, sent []impl.Sent) []impl.Event {
 }
 
 func TestJudgeDrawnWorlds(t *testing.T) {
+	t.Parallel()
 	drawn := rand.New(rand.NewSource(14))
 	said := map[string]int{}
 	for range 30000 {
@@ -885,6 +891,7 @@ func recklessStep(drawn *rand.Rand, w impl.World) impl.Deed {
 
 // Whatever is done to a new world, all is well; it is not torn, where so many are not lost.
 func TestJudgeDrawnRows(t *testing.T) {
+	t.Parallel()
 	for seed := range 120 {
 		drawnRow(seed, deedConfigs()[seed%6], 250, mixedStep, func(w impl.World) { checkVerdicts(t, w, allSo) })
 	}
@@ -912,6 +919,7 @@ func TestJudgeDrawnRows(t *testing.T) {
 
 // Of rows that tear it, order and truth hold by what readers told; the other three are not asked any more, whatever is told.
 func TestJudgeTornRows(t *testing.T) {
+	t.Parallel()
 	torn, spoilt := 0, 0
 	for seed := range 90 {
 		drawnRow(seed, deedConfigs()[seed%6], 250, recklessStep, func(w impl.World) {

@@ -599,6 +599,7 @@ func TestMendNew(t *testing.T) {
 
 // Whatever is asked of whatever mend: what is answered is what the document says.
 func TestMendAsks(t *testing.T) {
+	t.Parallel()
 	for i, c := range slices.Concat(writerConfigs(), unheldConfigs()) {
 		right, wrong, few := someMends(c), badMends(c), plannedMend(2, 4, "dwh", []int{0}, []int{0})
 		bad := badConfigs()
@@ -1405,6 +1406,7 @@ func checkMendForgotten(t *testing.T, name string, m impl.Mend) {
 }
 
 func TestMendDrawnRows(t *testing.T) {
+	t.Parallel()
 	planned, ready := 0, 0
 	for seed := range 250 {
 		drawn := rand.New(rand.NewSource(int64(seed)))

@@ -569,6 +569,7 @@ func TestReaderPackEdges(t *testing.T) {
 
 // One event is another, the first, the last and one between.
 func TestReaderPackEvents(t *testing.T) {
+	t.Parallel()
 	k := readerRecord()
 	check := func(e impl.Event, isRight bool) {
 		t.Helper()
@@ -803,6 +804,7 @@ func TestReaderReadMistakes(t *testing.T) {
 
 // A count or a length that is just above what is there, or far above it, is refused, and not gone through.
 func TestRecordGreatCounts(t *testing.T) {
+	t.Parallel()
 	for _, count := range append(numbersOfAllSizes(), 121, 201, 1000) {
 		great := string(binary.AppendUvarint(nil, uint64(count)))
 		for _, left := range []int{0, 1, 2, 5, 8, 40, 200, 1000} {
@@ -822,6 +824,7 @@ func TestRecordGreatCounts(t *testing.T) {
 
 // All bytes of at most two, and longer ones of few values.
 func TestRecordEveryShort(t *testing.T) {
+	t.Parallel()
 	c := conf(1, 0, 1)
 	read := [4]int{}
 	check := func(b []byte) {
@@ -1031,6 +1034,7 @@ func (k recordKind[T]) checkDrawn(t *testing.T, drawn *rand.Rand, x T) (int, int
 }
 
 func TestRecordDrawn(t *testing.T) {
+	t.Parallel()
 	drawn := rand.New(rand.NewSource(17))
 	var right, near [4]int
 	for range 4000 {
@@ -1054,6 +1058,7 @@ func TestRecordDrawn(t *testing.T) {
 
 // Bytes that are drawn without any record; what is read of them is written as they were.
 func TestRecordDrawnBytes(t *testing.T) {
+	t.Parallel()
 	drawn := rand.New(rand.NewSource(18))
 	read := [4]int{}
 	for range 200000 {

@@ -369,6 +369,7 @@ func TestNextBadReader(t *testing.T) {
 }
 
 func TestNextBadNodes(t *testing.T) {
+	t.Parallel()
 	for _, c := range registerConfigs() {
 		for _, g := range fewRegisters(c)[:5] {
 			for _, list := range wrongAnswers(c) {
@@ -878,6 +879,7 @@ func readLists(c impl.Config, epoch int, off int) [][]impl.Answer {
 
 // All that comes first or later, against the model.
 func TestNextGrid(t *testing.T) {
+	t.Parallel()
 	for _, c := range registerConfigs()[:2] {
 		for _, g := range someRegisters(c) {
 			size := len(g.Eras)
@@ -979,6 +981,7 @@ func turnedRegister(drawn *rand.Rand, c impl.Config, g impl.Register, r impl.Rea
 
 // One register that grows, and a reader behind it.
 func TestReaderDrawnRows(t *testing.T) {
+	t.Parallel()
 	kinds, codes := map[int]int{}, map[int]int{}
 	full := 0
 	for seed := range 120 {

@@ -468,6 +468,7 @@ func TestRegOkSome(t *testing.T) {
 
 // Whatever is asked of whatever register: what is answered is what the document says.
 func TestRegisterAsks(t *testing.T) {
+	t.Parallel()
 	for _, c := range registerConfigs() {
 		right, wrong, few := someRegisters(c), badRegisters(c), registerOf(c, 3, 1, at(1, 1))
 		for _, a := range regAsks(c) {
@@ -901,6 +902,7 @@ func checkOnlyLastCloses(t *testing.T, c impl.Config, r impl.Register) {
 }
 
 func TestRegisterDrawnRows(t *testing.T) {
+	t.Parallel()
 	for seed := range 150 {
 		drawn := rand.New(rand.NewSource(int64(seed)))
 		c := registerConfigs()[seed%len(registerConfigs())]

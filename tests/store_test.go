@@ -1226,6 +1226,7 @@ func sealedStays(t *testing.T, s impl.Store) {
 }
 
 func TestStoreDrawnRows(t *testing.T) {
+	t.Parallel()
 	for seed := range 400 {
 		drawn := rand.New(rand.NewSource(int64(seed)))
 		var s impl.Store
@@ -1250,6 +1251,7 @@ func TestStoreDrawnRows(t *testing.T) {
 
 // Rows at the limits: nearly full stores, and late ones of many places.
 func TestStoreDrawnFull(t *testing.T) {
+	t.Parallel()
 	for seed := range 60 {
 		drawn := rand.New(rand.NewSource(int64(1000 + seed)))
 		s := impl.Store{Kept: entriesBy(0, 9, mostKept-drawn.Intn(12))}

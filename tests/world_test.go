@@ -564,6 +564,7 @@ func TestWorldOkWriterOrder(t *testing.T) {
 
 // Each way in which a writer is not right, as the first, a middle and the last one.
 func TestWorldOkBadWriter(t *testing.T) {
+	t.Parallel()
 	for _, c := range writerConfigs() {
 		w := emptyWorld(c)
 		w.Register = registerOf(c, lastEpoch, 3, 0)
@@ -920,6 +921,7 @@ func worldDrawer(drawn *rand.Rand) func() impl.World {
 }
 
 func TestWorldOkDrawn(t *testing.T) {
+	t.Parallel()
 	next := worldDrawer(rand.New(rand.NewSource(12)))
 	count := 0
 	for range 20000 {
@@ -1360,6 +1362,8 @@ func spoilValue(v reflect.Value) {
 		spoilValue(v.Index(0))
 	case reflect.Int:
 		v.SetInt(-99)
+	case reflect.Uint8:
+		v.SetUint(99)
 	case reflect.String:
 		v.SetString("spoilt")
 	case reflect.Bool:

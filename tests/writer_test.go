@@ -492,6 +492,7 @@ func TestWriterOkSome(t *testing.T) {
 
 // Whatever is asked of whatever writer: what is answered is what the document says.
 func TestWriterAsks(t *testing.T) {
+	t.Parallel()
 	for _, c := range writerConfigs() {
 		right, wrong, few := someWriters(c), badWriters(c), writerOf(c, 3, "dodo")
 		for _, a := range writerAsks(c) {
@@ -1007,6 +1008,7 @@ func checkForgotten(t *testing.T, name string, w impl.Writer) {
 }
 
 func TestWriterDrawnRows(t *testing.T) {
+	t.Parallel()
 	for seed := range 200 {
 		drawn := rand.New(rand.NewSource(int64(seed)))
 		c := writerConfigs()[seed%len(writerConfigs())]
@@ -1046,6 +1048,7 @@ func TestWriterDrawnRows(t *testing.T) {
 
 // Rows that fill the writer, so that the last offsets come too.
 func TestWriterDrawnFull(t *testing.T) {
+	t.Parallel()
 	for seed := range 40 {
 		drawn := rand.New(rand.NewSource(int64(700 + seed)))
 		c := writerConfigs()[seed%len(writerConfigs())]
