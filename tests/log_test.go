@@ -644,10 +644,12 @@ func TestLogHonestFew(t *testing.T) {
 	}
 }
 
-// logWorlds are of all sorts, some with a log and tales.
+// logWorlds are of all sorts, some with a log and tales; one has all in its log that was sent, and in its tales no other kind.
 func logWorlds() []impl.World {
 	told := []impl.Event{toldData(1, "a"), {Kind: evHole, At: at(1, 2)}, toldData(3, "c")}
-	return append(judgedWorlds(), tellingWorld(told, told[2:]), sentWorld(at(1, 1), sureSent(1, 1, "a"), sureSent(1, 2, "b"), openSent(1, 3, "c"), sureSent(2, 1, "")))
+	whole := tellingWorld(told[:1], told[:1])
+	whole.Sent = []impl.Sent{sureSent(1, 1, "a"), sureSent(1, 2, "b")}
+	return append(judgedWorlds(), whole, tellingWorld(told, told[2:]), sentWorld(at(1, 1), sureSent(1, 1, "a"), sureSent(1, 2, "b"), openSent(1, 3, "c"), sureSent(2, 1, "")))
 }
 
 func TestLogWritesNothing(t *testing.T) {
